@@ -1,0 +1,1 @@
+"""Topletter: a pile of letters, of which the top one is answered."""
