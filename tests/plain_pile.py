@@ -1,35 +1,57 @@
-"""The pile of point [4], followed letter by letter: slow, but plainly what the document says."""
+"""The pile of points [4] to [8], followed letter by letter: slow, but plainly what the document says."""
 
 import random
 
 
 class PlainPile:
-    """What happens in the first ticks of a timetable.
+    """What happens in the first ticks of a timetable, in which tick after tick is played.
 
-    For each tick: `heights`, `piles` (the bottom letter first) and `answered` (in order).
-    For each letter: `arrivals`, and `answers`, which holds only the letters that were answered.
+    In tick `more_in` one letter more comes, as the last one; it is called None. In tick `less_in` there is
+    one answer less. With `from_bottom`, the bottom letter is always answered first.
+
+    For each tick: `heights`, `piles` (the bottom letter first), `answered` (in order) and `idle`, the number
+    of idle answers. For each letter: `arrivals`, `below`, the letter directly below it when it came, and
+    `answers`; the last one holds only the letters that were answered, and `below` those with a letter below.
     """
 
-    def __init__(self, rows, ticks):
+    def __init__(self, rows, ticks, more_in=None, less_in=None, from_bottom=False):
         self.heights = []
         self.piles = []
         self.answered = []
+        self.idle = []
         self.arrivals = []
+        self.below = {}
         self.answers = {}
-        pile = []
+        self.pile = []
         for tick in range(ticks):
             come, answers = rows[tick % len(rows)]
             for _ in range(come):
-                pile.append(len(self.arrivals))
+                self.put(len(self.arrivals))
                 self.arrivals.append(tick)
-            taken = []
-            for _ in range(answers):
-                if pile:
-                    taken.append(pile.pop())
-                    self.answers[taken[-1]] = tick
-            self.answered.append(taken)
-            self.piles.append(list(pile))
-            self.heights.append(len(pile))
+            if tick == more_in:
+                self.put(None)
+            if tick == less_in:
+                answers -= 1
+            self.answer(tick, answers, 0 if from_bottom else -1)
+
+    def put(self, letter):
+        if self.pile:
+            self.below[letter] = self.pile[-1]
+        self.pile.append(letter)
+
+    def answer(self, tick, answers, end):
+        taken = []
+        while self.pile and len(taken) < answers:
+            taken.append(self.pile.pop(end))
+            self.answers[taken[-1]] = tick
+        self.answered.append(taken)
+        self.idle.append(answers - len(taken))
+        self.piles.append(list(self.pile))
+        self.heights.append(len(self.pile))
+
+    def waits(self, letters):
+        """The waits of these letters, None for those that were not answered."""
+        return [self.answers[k] - self.arrivals[k] if k in self.answers else None for k in letters]
 
 
 def small_rows():
@@ -51,3 +73,8 @@ def mixed_rows(many):
         length = 1 + number % 24
         found.append([(source.randint(0, most_come), source.randint(0, most_answers)) for _ in range(length)])
     return found
+
+
+def with_letters(all_rows):
+    """Those of the rows lists by which letters come."""
+    return [rows for rows in all_rows if any(come for come, _ in rows)]

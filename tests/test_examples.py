@@ -2,8 +2,11 @@
 
 import unittest
 
-from topletter.errors import InvalidNumber, InvalidTimetable, NoLetters
+from topletter.chains import one_less, one_more
+from topletter.errors import InvalidNumber, InvalidTimetable, NoAnswer, NoLetters
 from topletter.letters import answer_tick, answered_in, arrival, longest_wait, never_answered, top_letters, wait
+from topletter.orders import bottom_answer, longest_bottom_wait, total_waiting
+from topletter.planning import fewest_answers, first_late, first_unlike
 from topletter.timetables import Timetable
 
 
@@ -70,6 +73,44 @@ class Examples(unittest.TestCase):
     def test_letters_of_a_far_tick(self):
         found = list(top_letters(Timetable((2, 1)), 10 ** 17, 3))
         self.assert_same(found, [200000000000000000, 199999999999999998, 199999999999999996])
+
+    def test_one_more(self):
+        self.assert_same(list(one_more(self.timetable, 0)), [(None, None, 0), (1, 0, 1), (0, 1, None)])
+
+    def test_one_less_of_an_idle_answer(self):
+        self.assert_same(list(one_less(Timetable((1, 2), (0, 1)), 1)), [])
+
+    def test_one_less(self):
+        self.assert_same(list(one_less(Timetable((2, 1), (0, 1), (0, 1)), 0)), [(1, 0, 1), (0, 1, 2)])
+
+    def test_one_less_without_an_answer(self):
+        with self.assertRaises(NoAnswer):
+            list(one_less(Timetable((2, 0), (0, 1)), 2))
+
+    def test_bottom_order(self):
+        timetable = self.timetable
+        found = [bottom_answer(timetable, 3), bottom_answer(timetable, 4), longest_bottom_wait(timetable)]
+        self.assert_same(found, [3, 4, 1])
+
+    def test_bottom_order_of_a_growing_pile(self):
+        self.assert_same([bottom_answer(Timetable((2, 1)), 10), longest_bottom_wait(Timetable((2, 1)))], [10, None])
+
+    def test_total_waiting(self):
+        self.assert_same([total_waiting(self.timetable, 9), total_waiting(Timetable((2, 1)), 10)], [3, 55])
+
+    def test_planning(self):
+        timetable = self.timetable
+        found = [fewest_answers(timetable, 0, 4), first_late(timetable, 0), first_late(timetable, 0, 0)]
+        self.assert_same(found, [[0], 0, None])
+
+    def test_planning_with_five_answers(self):
+        with self.assertRaises(InvalidNumber):
+            fewest_answers(self.timetable, 0, 5)
+
+    def test_first_unlike(self):
+        timetable = self.timetable
+        found = [first_unlike(timetable, timetable.with_answers(0)), first_unlike(timetable, timetable.with_answers(1))]
+        self.assert_same(found, [0, None])
 
 
 if __name__ == "__main__":

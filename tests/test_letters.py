@@ -1,20 +1,14 @@
 import types
 import unittest
 
-from tests.plain_pile import PlainPile, mixed_rows, small_rows
-from tests.wrong_values import NO_NUMBERS
+from tests.plain_pile import PlainPile, mixed_rows, small_rows, with_letters
+from tests.wrong_values import LAST, NO_NUMBERS, OUT_OF_RANGE
 from topletter import letters
 from topletter.errors import InvalidNumber, NoLetters
 from topletter.letters import answer_tick, answered_in, arrival, longest_wait, never_answered, top_letters, wait
 from topletter.timetables import Timetable
 
-LAST = 10 ** 18
-OUT_OF_RANGE = (-1, LAST + 1, -LAST, 10 ** 5000)
 OF_A_LETTER = (arrival, answer_tick, wait)
-
-
-def with_letters(all_rows):
-    return [rows for rows in all_rows if any(come for come, _ in rows)]
 
 
 class SingleLetters(unittest.TestCase):

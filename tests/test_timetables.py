@@ -1,11 +1,10 @@
 import unittest
 
 from tests.plain_pile import PlainPile, mixed_rows, small_rows
-from tests.wrong_values import NO_NUMBERS
+from tests.wrong_values import LAST, NO_NUMBERS
 from topletter.errors import InvalidNumber, InvalidTimetable
 from topletter.timetables import Timetable
 
-LAST = 10 ** 18
 NO_ROWS = (
     True,
     None,

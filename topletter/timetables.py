@@ -4,6 +4,7 @@ from math import lcm
 
 from topletter.checks import LAST, check_number, is_number
 from topletter.errors import InvalidTimetable
+from topletter.pile import growth_of, height_before, letters_in
 
 MOST_ROWS = 24
 MOST_IN_ROW = 9
@@ -50,13 +51,6 @@ def _added_rows(one, other):
     return [(one[tick][0] + other[tick][0], one[tick][1] + other[tick][1]) for tick in ticks]
 
 
-def _height_after(rows, height):
-    """The number of letters on a pile of this height after the ticks of these rows."""
-    for come, answers in rows:
-        height = max(0, height + come - answers)
-    return height
-
-
 class Timetable:
     """A timetable of 1 to 24 rows that repeats, and the pile that it makes."""
 
@@ -80,12 +74,12 @@ class Timetable:
     @property
     def letters_per_round(self):
         """How many letters come in a round."""
-        return sum([come for come, _ in self._rows])
+        return letters_in(self._rows)
 
     @property
     def growth(self):
         """By how many letters the pile grows in each round, in the long run."""
-        return max(0, sum([come - answers for come, answers in self._rows]))
+        return growth_of(self._rows)
 
     def __len__(self):
         return len(self._rows)
@@ -116,13 +110,7 @@ class Timetable:
     def __call__(self, tick):
         """The number of letters on the pile after a tick."""
         check_number(tick, 0, LAST)
-        turns, row = divmod(tick, len(self._rows))
-        height = 0
-        if turns > 0:
-            # A round adds its letters less its answers to the pile, but never ends below the height at which
-            # the first round ended: the pile began that one empty. So each later round adds just the growth.
-            height = _height_after(self._rows, 0) + (turns - 1) * self.growth
-        return _height_after(self._rows[:row + 1], height)
+        return height_before(self._rows, tick + 1)
 
     def with_answers(self, *ticks):
         """The timetable with one answer more for each of these ticks of the round."""
