@@ -1,7 +1,7 @@
 """When each letter comes and is answered, and which letters lie on the pile."""
 
 from topletter.checks import LAST, check_letters, check_number
-from topletter.pile import answer_of, pile_at, place_of, wait_of
+from topletter.pile import answer_of, answered_at, pile_at, place_of, wait_of
 
 MOST_AT_TOP = 1000
 
@@ -48,8 +48,7 @@ def answered_in(timetable, tick):
     """Yield the letters that are answered in a tick, in order."""
     check_letters(timetable)
     check_number(tick, 0, LAST)
-    _, answers = timetable[tick]
-    for letter in pile_at(timetable.rows, tick, answers):
+    for letter in answered_at(timetable.rows, tick):
         yield letter
 
 

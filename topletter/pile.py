@@ -100,3 +100,9 @@ def pile_at(rows, tick, count):
             found = found + _first_letters(rows, tick, left)
         spent = max(0, -left)
     return found[:many]
+
+
+def answered_at(rows, tick):
+    """The letters that are answered in a tick, in order."""
+    _, answers = row_at(rows, tick)
+    return pile_at(rows, tick, answers)
